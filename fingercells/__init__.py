@@ -1,0 +1,1 @@
+"""Pages for fingers, whole: texts become cells of raised points, and texts again."""
