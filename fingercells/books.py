@@ -1,7 +1,7 @@
 """A book: a text whose words' entries are laid on lines."""
 
 from fingercells.rows import texts_of_word
-from fingercells.signs import BLANK, LINE_END, pieces
+from fingercells.signs import BLANK, EMPTY_CELL, LINE_END, pieces
 
 
 # An entry on its line: the place of its first letter in the book's text and
@@ -14,10 +14,19 @@ class Laid:
         self.cells = cells
 
 
+# Its spots tell for each place of the text the line and the cell where that
+# letter's entry begins, and None where no letter stands.
 class Book:
     def __init__(self, text, lines):
         self.text = text
         self.lines = lines
+        self.spots = spots_of_letters(len(text), lines)
+
+
+# In the place of a book that is open: each question finds nothing in it. (A
+# book of nothing is another thing: it has one line.)
+def no_book():
+    return Book([], [])
 
 
 def book_of_text(text, table, width):
@@ -64,3 +73,37 @@ def cell_for_word(line):
         return 0
     last = line[-1]
     return last.cell + len(last.cells) + 1
+
+
+def spots_of_letters(count, lines):
+    spots = [None] * count
+    for number, line in enumerate(lines):
+        for laid in line:
+            for place in range(laid.place, laid.place + len(laid.text)):
+                spots[place] = (number, laid.cell)
+    return spots
+
+
+def cells_of_line(line):
+    cells = []
+    for laid in line:
+        # Only ahead of a word is there a cell that no entry has.
+        cells.extend([EMPTY_CELL] * (laid.cell - len(cells)))
+        cells.extend(laid.cells)
+    return cells
+
+
+# None if no entry's cell is there.
+def laid_at_cell(line, cell):
+    for laid in line:
+        if laid.cell <= cell < laid.cell + len(laid.cells):
+            return laid
+    return None
+
+
+# None if the text goes on with these nowhere from the beginning on.
+def place_of_bytes(text, what, beginning):
+    for place in range(beginning, len(text) - len(what) + 1):
+        if text[place:place + len(what)] == what:
+            return place
+    return None

@@ -5,9 +5,15 @@ from fingercells.session import Session
 START = 0
 CELLS = 1
 TEXT = 2
+BOOK = 3
+LINE = 4
+TOUCH = 5
+PLACE = 6
 
-# How many whole numbers stand ahead of the row, call by call.
-NUMBERS_AHEAD = (1, 0, 0, 0)
+# Call by call: how many whole numbers stand behind the call's own, and whether
+# a row stands behind these.
+NUMBERS_AHEAD = (1, 0, 0, 0, 1, 2, 1, 1)
+HAS_ROW = (True, True, True, True, False, False, False, True)
 
 
 def answers(calls):
@@ -16,12 +22,16 @@ def answers(calls):
     at = 0
     while at < len(calls):
         call = calls[at]
-        row_begin = at + 2 + NUMBERS_AHEAD[call]
-        row_end = row_begin + calls[row_begin - 1]
-        answer = answer_of_call(session, call, calls[at + 1:row_begin - 1], calls[row_begin:row_end])
+        behind = at + 1 + NUMBERS_AHEAD[call]
+        numbers = calls[at + 1:behind]
+        row = []
+        if HAS_ROW[call]:
+            row = calls[behind + 1:behind + 1 + calls[behind]]
+            behind += 1 + len(row)
+        answer = answer_of_call(session, call, numbers, row)
         answered.append(len(answer))
         answered.extend(answer)
-        at = row_end
+        at = behind
     return answered
 
 
@@ -32,4 +42,12 @@ def answer_of_call(session, call, numbers, row):
         return session.fp_cells(row)
     if call == TEXT:
         return session.fp_text(row)
-    return session.fp_open(row)
+    if call == BOOK:
+        return session.fp_open(row)
+    if call == LINE:
+        return session.fp_line(numbers[0])
+    if call == TOUCH:
+        return session.fp_touch(numbers[0], numbers[1])
+    if call == PLACE:
+        return session.fp_place(numbers[0])
+    return session.fp_find(numbers[0], row)

@@ -1,9 +1,11 @@
-"""What the tests share: a plain table, and lists of calls with their answers apart."""
+"""What the tests share: a plain table, lists of calls with their answers apart, and books laid slowly."""
+
+import re
 
 from fingercells.pages import answers
-from fingercells.session import Session
 
 LETTERS = range(33, 127)
+MOST = 4294967295
 
 
 def plain_cells(letter):
@@ -47,6 +49,23 @@ def open_call(text):
     return [3, len(numbers), *numbers]
 
 
+def line_call(line):
+    return [4, line]
+
+
+def touch_call(line, cell):
+    return [5, line, cell]
+
+
+def place_call(place):
+    return [6, place]
+
+
+def find_call(what, beginning=0):
+    numbers = numbers_of(what)
+    return [7, beginning, len(numbers), *numbers]
+
+
 def ask(*calls):
     """The answers of these calls on one new object, each one a list."""
     asked = [number for call in calls for number in call]
@@ -65,11 +84,11 @@ def apart(answered, count):
     return found
 
 
-def started(entries=None, width=20):
-    """The object itself, for what no call tells yet."""
-    session = Session()
-    assert session.fp_start(width, flat(plain_table() if entries is None else entries)) == [0]
-    return session
+def ask_book(text, *calls, table=None, width=20):
+    """What these calls answer while this book is open."""
+    opened, *rest = ask(start(table, width), open_call(text), *calls)[1:]
+    assert opened[0] > 0 and len(opened) == 1
+    return rest
 
 
 def rows_of(word, entries):
@@ -83,8 +102,48 @@ def rows_of(word, entries):
     return found
 
 
+def worth(row):
+    """Of two rows of one word the document asks for the one that is worth more."""
+    return (-sum(len(cells) for text, cells in row), [len(text) for text, cells in row])
+
+
 def best_row(word, entries):
-    """Of all rows the one that the document asks for."""
-    def worth(row):
-        return (-sum(len(cells) for text, cells in row), [len(text) for text, cells in row])
-    return max(rows_of(word, entries), key=worth)
+    """The row that the document asks for: whole rows compared, from the word's end on."""
+    best = [[]]
+    for begin in reversed(range(len(word))):
+        rows = [[(text, cells)] + best[-len(text)] for text, cells in entries
+                if word[begin:begin + len(text)] == list(text)]
+        best.append(max(rows, key=worth))
+    return best[-1]
+
+
+def laid_slowly(text, table, width):
+    """Of each line of the book its entries: place of the first letter, first cell, letters, cells."""
+    lines = []
+    begin = 0
+    for paragraph in text.split("\n"):
+        lines.append([])
+        used = 0
+        for word in re.finditer("[^ ]+", paragraph):
+            row = best_row(numbers_of(word.group()), table)
+            if used and used + 1 + sum(len(cells) for letters, cells in row) > width:
+                lines.append([])
+                used = 0
+            cell = used + 1 if used else 0
+            place = begin + word.start()
+            for letters, cells in row:
+                if cell + len(cells) > width:
+                    lines.append([])
+                    cell = 0
+                lines[-1].append((place, cell, list(letters), list(cells)))
+                place += len(letters)
+                cell += len(cells)
+            used = cell
+        begin += len(paragraph) + 1
+    return lines
+
+
+def cells_slowly(line):
+    """The cells of a line that was laid slowly, with the empty ones between its words."""
+    cells = {cell + number: sign for place, cell, letters, signs in line for number, sign in enumerate(signs)}
+    return [cells.get(number, 0) for number in range(max(cells, default=-1) + 1)]

@@ -3,7 +3,7 @@
 import random
 import unittest
 
-from helper import ask, best_row, cells_call, numbers_of, plain_table, rows_of, start, text_call
+from helper import ask, best_row, cells_call, numbers_of, plain_table, rows_of, start, text_call, worth
 
 NOT_VALID = [-22]
 
@@ -134,10 +134,12 @@ class AgainstAllRows(unittest.TestCase):
             words = ["".join(chance.choice("ABC") for letter in range(chance.randint(1, 9))) for turn in range(20)]
             answers = ask(start(table), *[cells_call(word) for word in words])
             for word, answer in zip(words, answers[1:]):
-                row = best_row(numbers_of(word), table)
+                rows = rows_of(numbers_of(word), table)
+                row = max(rows, key=worth)
+                self.assertEqual(row, best_row(numbers_of(word), table))
                 cells = [cell for text, entry_cells in row for cell in entry_cells]
                 self.assertEqual(answer, [len(cells), *cells], word)
-                counts = [sum(len(part[1]) for part in other) for other in rows_of(numbers_of(word), table)]
+                counts = [sum(len(part[1]) for part in other) for other in rows]
                 several += counts.count(len(cells)) > 1
         self.assertGreater(several, 100)
 

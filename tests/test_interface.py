@@ -3,7 +3,8 @@
 import unittest
 
 from fingercells.pages import answers
-from helper import ask, cells_call, flat, open_call, plain_table, start, text_call
+from helper import (MOST, ask, cells_call, find_call, flat, line_call, open_call, place_call, plain_table, start,
+                    text_call, touch_call)
 
 
 def one_behind_another(*calls):
@@ -41,6 +42,44 @@ class OneList(unittest.TestCase):
         asked = one_behind_another(start(), text_call([1, 2, 3, 0, 0, 1, 1]), text_call([3, 0]), cells_call("!"))
         self.assertEqual(answers(asked), [1, 0, 8, 7, 33, 34, 35, 32, 32, 33, 33, 3, 2, 35, 32, 2, 1, 1])
 
+    def test_what_stands_behind_the_number_that_is_answered(self):
+        asked = one_behind_another(start(), open_call(" A\nBa"), line_call(1), touch_call(1, 2), place_call(1),
+                                   find_call("B"))
+        self.assertEqual(answers(asked), [1, 0, 1, 2, 49, 3, 34, 63, 15, *[0] * 45, 1, 4, 3, 0, 0, 0, 1, 3])
+
+    def test_refusals_about_a_book_stand_alone(self):
+        asked = one_behind_another(start(), line_call(0), touch_call(0, 0), place_call(0), find_call("A"),
+                                   open_call("A"), line_call(MOST), touch_call(MOST, MOST), place_call(MOST),
+                                   find_call("B"), find_call(""), line_call(0))
+        self.assertEqual(answers(asked), [1, 0, *[1, -2] * 4, 1, 1, *[1, -2] * 4, 1, -22, 49, 1, 33, *[0] * 47])
+
+    def test_numbers_stand_ahead_of_the_row_and_there_may_be_no_row(self):
+        # The numbers that are handed in, one behind another, without the helper's calls.
+        asked = start() + [3, 5, 65, 10, 66, 66, 65]
+        self.assertEqual(answers(asked + [4, 1])[4:], [49, 3, 34, 34, 33, *[0] * 45])
+        self.assertEqual(answers(asked + [5, 1, 2])[4:], [1, 4])
+        self.assertEqual(answers(asked + [5, 2, 1])[4:], [1, -2])
+        self.assertEqual(answers(asked + [6, 3])[4:], [3, 0, 1, 1])
+        self.assertEqual(answers(asked + [7, 1, 2, 66, 65])[4:], [1, 3])
+        self.assertEqual(answers(asked + [7, 2, 1, 66])[4:], [1, 2])
+        self.assertEqual(answers(asked + [7, 3, 0])[4:], [1, -22])
+
+    def test_what_stands_behind_each_call(self):
+        asked = [[4, 4], [5, 5, 6], [6, 7], [7, 6, 2, 5, 4], [4, 0], [5, 0, 0], [6, 0], [7, 0, 1, 65], [1, 1, 65]]
+        alone = [[-2], [-2], [-2], [-2], [1, 33] + [0] * 47, [0], [0, 0, 0], [0], [1, 33]]
+        for first in range(len(asked)):
+            for second in range(len(asked)):
+                found = ask(start(), open_call("A"), asked[first], asked[second])
+                self.assertEqual(found[2:], [alone[first], alone[second]])
+
+    def test_a_thousand_questions_about_a_book(self):
+        calls = [start(), open_call("A" * 499)]
+        for place in range(499):
+            calls += [place_call(place), touch_call(place // 20, place % 20)]
+        self.assertEqual(len(calls), 1000)
+        expected = [answer for place in range(499) for answer in ([0, place // 20, place % 20], [place])]
+        self.assertEqual(ask(*calls), [[0], [25], *expected])
+
     def test_a_thousand_calls(self):
         calls = [start()]
         expected = [[0]]
@@ -69,7 +108,9 @@ class OneList(unittest.TestCase):
 
 class WhatIsHandedIn(unittest.TestCase):
     CALLS = one_behind_another(start(plain_table(("AB", [51]))), cells_call("AB  C"), text_call([33, 0, 51]),
-                               open_call("AB\n C"), cells_call([31]), start(width=5))
+                               open_call("AB\n C"), cells_call([31]), start(width=5), line_call(0), line_call(2),
+                               touch_call(1, 0), touch_call(0, 1), place_call(1), place_call(2), find_call(" C"),
+                               find_call("", 7), find_call("A", 1), open_call("D"), line_call(0), find_call("D"))
 
     def test_the_list_stays_as_it_was(self):
         asked = list(self.CALLS)

@@ -3,7 +3,7 @@
 import random
 import unittest
 
-from helper import ask, best_row, numbers_of, open_call, plain_table, start, started
+from helper import ask, find_call, laid_slowly, line_call, open_call, plain_table, start
 
 NOT_VALID = [-22]
 
@@ -13,27 +13,6 @@ def lines_of(text, width=20, *short_forms):
     answer = ask(start(plain_table(*short_forms), width), open_call(text))[1]
     assert len(answer) == 1
     return answer[0]
-
-
-def counted_slowly(text, table, width):
-    """How many lines, told from the cells of each word's entries."""
-    lines = 0
-    for paragraph in text.split("\n"):
-        lines += 1
-        used = 0
-        for word in paragraph.split():
-            counts = [len(cells) for letters, cells in best_row(numbers_of(word), table)]
-            if used and used + 1 + sum(counts) <= width:
-                used += 1 + sum(counts)
-                continue
-            lines += used > 0
-            used = 0
-            for count in counts:
-                if used + count > width:
-                    lines += 1
-                    used = 0
-                used += count
-    return lines
 
 
 def fewest_lines(counts, width):
@@ -62,26 +41,20 @@ class WhatIsRefused(unittest.TestCase):
         self.assertEqual(lines_of([33, 32, 126, 10, 65]), 2)
 
     def test_the_open_book_stays_as_it_was(self):
-        session = started()
-        self.assertEqual(session.fp_open(numbers_of("A\nB")), [2])
-        book = session.book
-        for text in (numbers_of("A" * 4097), [65, 31], [127]):
-            self.assertEqual(session.fp_open(text), NOT_VALID)
-            self.assertIs(session.book, book)
-            self.assertEqual(book.text, numbers_of("A\nB"))
-            self.assertEqual([[laid.text for laid in line] for line in book.lines], [[(65,)], [(66,)]])
+        asked = (line_call(0), line_call(1), line_call(2), find_call("A\nB"))
+        answers = ask(start(), open_call("A\nB"), *asked)[2:]
+        self.assertEqual([answer[0] for answer in answers], [1, 1, -2, 0])
+        for text in ("A" * 4097, [65, 31], [127]):
+            self.assertEqual(ask(start(), open_call("A\nB"), open_call(text), *asked)[2:], [NOT_VALID, *answers])
 
     def test_no_book_is_open_after_a_refusal_alone(self):
-        session = started()
-        self.assertEqual(session.fp_open([31]), NOT_VALID)
-        self.assertIsNone(session.book)
+        for text in ([31], "A" * 4097):
+            answers = ask(start(), open_call(text), line_call(0), find_call("A"))
+            self.assertEqual(answers[1:], [NOT_VALID, [-2], [-2]])
 
     def test_another_book_takes_its_place(self):
-        session = started()
-        session.fp_open(numbers_of("A\nB"))
-        self.assertEqual(session.fp_open(numbers_of("C")), [1])
-        self.assertEqual(session.book.text, [67])
-        self.assertEqual(len(session.book.lines), 1)
+        answers = ask(start(), open_call("A\nB"), open_call("C"), line_call(0), line_call(1), find_call("A"))
+        self.assertEqual(answers[1:], [[2], [1], [1, 35] + [0] * 47, [-2], [-2]])
 
     def test_books_one_behind_another(self):
         answers = ask(start(), open_call("A\nB"), open_call("\t"), open_call("A\nB\nC"), open_call(""))
@@ -208,9 +181,10 @@ class AgainstASlowCount(unittest.TestCase):
         table = plain_table(("AB", [51, 52]), ("ABA", [53]), ("BAB", [54, 55, 56, 57, 58, 59]), ("aB", [60, 61]))
         for turn in range(150):
             width = chance.choice((20, 21, 22, 47, 48))
-            text = "".join(chance.choice("ABa" * chance.choice((2, 5)) + "  \n") for turn in range(chance.randint(0, 150)))
+            signs = "ABa" * chance.choice((2, 5)) + "  \n"
+            text = "".join(chance.choice(signs) for turn in range(chance.randint(0, 150)))
             answer = ask(start(table, width), open_call(text))[1]
-            self.assertEqual(answer, [counted_slowly(text, table, width)], repr(text))
+            self.assertEqual(answer, [len(laid_slowly(text, table, width))], repr(text))
 
     def test_no_way_to_lay_the_words_takes_fewer_lines(self):
         chance = random.Random(6)
@@ -218,53 +192,6 @@ class AgainstASlowCount(unittest.TestCase):
             counts = [chance.randint(1, 20) for word in range(chance.randint(1, 9))]
             text = " ".join("A" * count for count in counts)
             self.assertEqual(lines_of(text), fewest_lines(counts, 20), text)
-
-
-class TheBookThatIsKept(unittest.TestCase):
-    FORMS = (("the", [51]), ("ing", [52, 53, 54]), ("AB", [55]), ("ABC", [56, 57]))
-
-    def book(self, text, width=20):
-        session = started(plain_table(*self.FORMS), width)
-        numbers = numbers_of(text)
-        answer = session.fp_open(numbers)
-        self.assertEqual(answer, [len(session.book.lines)])
-        return session.book
-
-    def test_entries_places_and_cells(self):
-        book = self.book(" AB  the\n\n" + "ing" * 7 + " A")
-        found = [[(laid.place, laid.text, laid.cell, laid.cells) for laid in line] for line in book.lines]
-        the, ing, first = tuple(b"the"), tuple(b"ing"), tuple(b"AB")
-        self.assertEqual(found, [
-            [(1, first, 0, (55,)), (5, the, 2, (51,))],
-            [],
-            [(10 + 3 * number, ing, 3 * number, (52, 53, 54)) for number in range(6)],
-            [(28, ing, 0, (52, 53, 54)), (32, (65,), 4, (33,))]])
-
-    def test_nothing_is_left_out(self):
-        chance = random.Random(8)
-        for turn in range(60):
-            width = chance.choice((20, 23, 48))
-            parts = ("the", "ing", "AB", "ABC", "A", "b", " ", " ", "  ", "\n", "x" * 30)
-            text = "".join(chance.choice(parts) for turn in range(chance.randint(0, 120)))
-            book = self.book(text, width)
-            letters = []
-            for line in book.lines:
-                self.check_line(line, text, width)
-                letters += [letter for laid in line for letter in laid.text]
-            self.assertEqual(letters, [letter for letter in numbers_of(text) if letter > 32])
-
-    def check_line(self, line, text, width):
-        behind = None
-        for laid in line:
-            self.assertEqual(numbers_of(text)[laid.place:laid.place + len(laid.text)], list(laid.text))
-            self.assertIn((list(laid.text), list(laid.cells)), plain_table(*self.FORMS))
-            if behind is None:
-                self.assertEqual(laid.cell, 0)
-            else:
-                new_word = text[laid.place - 1] == " "
-                self.assertEqual(laid.cell, behind + new_word)
-            behind = laid.cell + len(laid.cells)
-            self.assertLessEqual(behind, width)
 
 
 if __name__ == "__main__":

@@ -3,7 +3,7 @@
 import random
 import unittest
 
-from helper import LETTERS, ask, cells_call, flat, open_call, plain_table, start, started
+from helper import LETTERS, ask, cells_call, find_call, line_call, open_call, place_call, plain_table, start, touch_call
 
 OK, NOT_VALID, NOT_SURE = [0], [-22], [-61]
 
@@ -223,6 +223,7 @@ class ToldFirst(unittest.TestCase):
 class CalledAgain(unittest.TestCase):
     REFUSED = ((plain_table()[1:], 20, NOT_VALID), (plain_table(("AC", [52])), 19, NOT_VALID),
                (plain_table(("AC", [52])), 49, NOT_VALID), (plain_table(("AC", [33])), 40, NOT_SURE))
+    ABOUT_A_BOOK = (line_call(0), line_call(1), touch_call(0, 0), place_call(0), find_call("A"))
 
     def test_taken_the_new_table_holds(self):
         answers = ask(start(plain_table(("AB", [51]))), cells_call("ABAC"),
@@ -235,14 +236,11 @@ class CalledAgain(unittest.TestCase):
                          [OK, [2], OK, [1], OK, [2]])
 
     def test_taken_no_book_is_open(self):
-        session = started()
-        session.fp_open([65])
-        self.assertIsNotNone(session.book)
-        self.assertEqual(session.fp_start(20, flat(plain_table())), OK)
-        self.assertIsNone(session.book)
+        answers = ask(start(), open_call("A"), start(), *self.ABOUT_A_BOOK)
+        self.assertEqual(answers, [OK, [1], OK] + [[-2]] * 5)
 
     def test_no_book_is_open_at_first(self):
-        self.assertIsNone(started().book)
+        self.assertEqual(ask(start(), *self.ABOUT_A_BOOK), [OK] + [[-2]] * 5)
 
     def test_refused_table_and_width_stay(self):
         first = plain_table(("AB", [51]))
@@ -252,13 +250,11 @@ class CalledAgain(unittest.TestCase):
             self.assertEqual(answers, [OK, refusal, [3, 51, 33, 35], [1], [2], [3]])
 
     def test_refused_the_open_book_stays(self):
-        session = started()
-        session.fp_open([65, 10, 66])
-        book = session.book
+        answers = ask(start(), open_call("A\nB"), *self.ABOUT_A_BOOK)[1:]
+        self.assertEqual(answers, [[2], [1, 33] + [0] * 47, [1, 34] + [0] * 47, [0], [0, 0, 0], [0]])
         for table, width, refusal in self.REFUSED:
-            self.assertEqual(session.fp_start(width, flat(table)), refusal)
-            self.assertIs(session.book, book)
-            self.assertEqual(len(book.lines), 2)
+            again = ask(start(), open_call("A\nB"), start(table, width), *self.ABOUT_A_BOOK)[1:]
+            self.assertEqual(again, [[2], refusal, *answers[1:]])
 
     def test_refused_at_first_and_taken_then(self):
         for table, width, refusal in self.REFUSED:
